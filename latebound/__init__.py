@@ -1,0 +1,1 @@
+"""Latebound: libraries that are opened and closed while a program runs."""
