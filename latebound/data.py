@@ -1,4 +1,4 @@
-"""Programs: which values are a LIB, a PROGRAM or a STEP."""
+"""Programs: which values are a LIB, a PROGRAM, a STEP or a RUN."""
 
 LETTERS = "abcdefghijklmnopqrstuvwxyz"
 LONGEST_NAME = 8
@@ -36,6 +36,11 @@ def is_step(program, thing):
         word, name, number = thing
         return word == "call" and is_below(number, many_uses(program, name))
     return False
+
+
+def is_run(program, thing):
+    """Whether thing is a RUN of this PROGRAM."""
+    return isinstance(thing, tuple) and all([is_step(program, part) for part in thing])
 
 
 def is_tuple_of(thing, many):

@@ -1,6 +1,10 @@
-"""Rows of libraries, and the definitions that a library gives."""
+"""Rows of libraries, and the definitions that libraries give."""
 
-from latebound.errors import NoLib
+from latebound.data import is_below
+from latebound.errors import NoLib, NoUse
+
+NOBODY = ("nobody",)
+LOST = ("lost",)
 
 
 def row(program, names):
@@ -26,12 +30,30 @@ def first_row(program):
 
 def gives(program, name, use):
     """The VERSION that the LIB of this name gives for the use; None if no definition serves it."""
+    versions = serving(program, name, use)
+    return versions[0] if versions else None
+
+
+def serving(program, name, use):
+    """The VERSIONs of the LIB of this name that serve the use, each ahead of those that it is taken before."""
     symbol, wanted, _ = use
     defs = lib_named(program, name)[2]
     versions = [version for defined, version in defs if defined == symbol and serves(version, wanted)]
-    if wanted in versions:
-        return wanted
-    return min(versions, default=None)
+    return sorted(versions, key=lambda version: (version != wanted, version))
+
+
+def answer_along(program, along, use):
+    """What a call of this use is told by the first of these LIBs that gives something for it."""
+    for name in along:
+        version = gives(program, name, use)
+        if version is not None:
+            return ("bound", name, version)
+    return unbound_answer(use)
+
+
+def unbound_answer(use):
+    """What a call of this use is told if none of the LIBs gives something for it."""
+    return NOBODY if use[2] else LOST
 
 
 def serves(version, wanted):
@@ -45,6 +67,19 @@ def lib_named(program, name):
         if lib[0] == name:
             return lib
     raise NoLib(name)
+
+
+def use_of(program, name, i):
+    """The use i of the LIB of this name; raises NoLib(name), NoUse(i)."""
+    return use_in(lib_named(program, name), i)
+
+
+def use_in(lib, i):
+    """The use i of the LIB; raises NoUse(i)."""
+    uses = lib[3]
+    if not is_below(i, len(uses)):
+        raise NoUse(i)
+    return uses[i]
 
 
 def add_new(found, names):

@@ -21,6 +21,10 @@ BARRED_AS_NAMES = set("""attrgetter breakpoint builtins compile copyright credit
 METHODS = set("""__init__ __eq__ __repr__ __str__ __len__ __enter__ __exit__ __call__ __iter__ __lt__ __le__ __gt__
     __ge__ __ne__ __contains__ __bool__""".split())
 
+BUILTIN_METHODS = set("""append clear copy count endswith extend find get index insert isalnum isalpha isdigit islower
+    isspace isupper items join keys ljust lower lstrip partition pop remove replace reverse rfind rjust rpartition rsplit
+    rstrip setdefault split splitlines startswith strip update upper values zfill bit_length""".split())
+
 
 def files():
     found = []
@@ -121,6 +125,38 @@ class LanguageTest(unittest.TestCase):
         for name, _, tree in files():
             read = {node.id for node in ast.walk(tree) if isinstance(node, ast.Name) and isinstance(node.ctx, ast.Load)}
             self.assertLessEqual(read & set(dir(builtins)), BUILTINS, name)
+
+    def test_methods_that_are_called(self):
+        """They are the package's own, or those of L25."""
+        classes = [node for _, _, tree in files() for node in tree.body if isinstance(node, ast.ClassDef)]
+        own = {node.name for part in classes for node in part.body if isinstance(node, ast.FunctionDef)}
+        for name, _, tree in files():
+            for node in ast.walk(tree):
+                if isinstance(node, ast.Call) and isinstance(node.func, ast.Attribute):
+                    self.assertIn(node.func.attr, own | BUILTIN_METHODS, (name, node.lineno))
+
+    def test_no_name_is_a_method_and_an_attribute(self):
+        methods, attributes = set(), set()
+        for _, _, tree in files():
+            for node in ast.walk(tree):
+                if isinstance(node, ast.ClassDef):
+                    methods |= {part.name for part in node.body if isinstance(part, ast.FunctionDef)}
+                elif isinstance(node, ast.Attribute) and isinstance(node.ctx, ast.Store):
+                    attributes.add(node.attr)
+        self.assertEqual(methods & attributes, set())
+
+    def test_no_loop_changes_what_it_goes_over(self):
+        """As far as both are plain names."""
+        changing = {"append", "clear", "extend", "insert", "pop", "remove", "reverse", "setdefault", "update"}
+        for name, _, tree in files():
+            for loop in ast.walk(tree):
+                if isinstance(loop, ast.For):
+                    over = {node.id for node in ast.walk(loop.iter) if isinstance(node, ast.Name)}
+                    for node in [part for row in loop.body for part in ast.walk(row)]:
+                        if isinstance(node, ast.Attribute) and node.attr in changing:
+                            self.assertNotIn(getattr(node.value, "id", None), over, (name, node.lineno))
+                        if isinstance(node, ast.Subscript) and not isinstance(node.ctx, ast.Load):
+                            self.assertNotIn(getattr(node.value, "id", None), over, (name, node.lineno))
 
     def test_double_underscores(self):
         for name, _, tree in files():
