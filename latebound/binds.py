@@ -1,9 +1,8 @@
 """All answers that calls can have, and what must be hidden so that they have the wanted ones."""
 
 from latebound.data import is_run
-from latebound.process import Process
-from latebound.rows import answer_along, serving, unbound_answer, use_of
-from latebound.runs import told
+from latebound.rows import all_calls, answer_along, serving, unbound_answer, use_of
+from latebound.runs import process_behind
 from latebound.tuples import frozen
 from latebound.walks import sights
 
@@ -29,9 +28,7 @@ def shows_answer(program, name, i, reply, thing):
     use_of(program, name, i)
     if not is_run(program, thing) or thing[-1:] != (("call", name, i),):
         return False
-    process = Process(program)
-    for step in thing[:-1]:
-        told(process, step)
+    process = process_behind(program, thing[:-1])
     if name not in process.there() or process.slot(name, i) is not None:
         return False
     return process.call(name, i) == frozen(reply)
@@ -140,11 +137,6 @@ def answers_along(program, sight, use):
 def definition_in(use, answer):
     """The definition to which this answer binds a call of the use; None if it binds it to none."""
     return (answer[1], use[0], answer[2]) if answer[0] == "bound" else None
-
-
-def all_calls(program):
-    """The pairs (name, i) of all uses."""
-    return [(lib[0], i) for lib in program[0] for i in range(len(lib[3]))]
 
 
 def all_definitions(program):

@@ -1,7 +1,7 @@
 """Rows of libraries, and the definitions that libraries give."""
 
 from latebound.data import is_below
-from latebound.errors import NoLib, NoUse
+from latebound.errors import NoDoor, NoLib, NoUse
 
 NOBODY = ("nobody",)
 LOST = ("lost",)
@@ -80,6 +80,18 @@ def use_in(lib, i):
     if not is_below(i, len(uses)):
         raise NoUse(i)
     return uses[i]
+
+
+def all_calls(program):
+    """The pairs (name, i) of all uses."""
+    return [(lib[0], i) for lib in program[0] for i in range(len(lib[3]))]
+
+
+def check_doors(program, numbers):
+    """Raises NoDoor(number) for the first of the numbers that is that of no door."""
+    for k in numbers:
+        if not is_below(k, len(program[2])):
+            raise NoDoor(k)
 
 
 def add_new(found, names):

@@ -12,6 +12,14 @@ def run(program, steps):
     return [told(process, step) for step in steps]
 
 
+def process_behind(program, steps):
+    """A Process in the stand behind these STEPs."""
+    process = Process(program)
+    for step in steps:
+        told(process, step)
+    return process
+
+
 def told(process, step):
     """What the Process answers to this STEP of a run: a call of a LIB that is not there is away, no error."""
     try:

@@ -2,6 +2,7 @@
 
 from latebound.layout import Layout, among, changed_base, closing, first_base, looks_along, names_there, opening
 from latebound.rows import add_new, gives, use_of
+from latebound.searches import runs_from
 
 
 def bases(program):
@@ -11,31 +12,22 @@ def bases(program):
 
 def walk(layout):
     """The pairs (base, run) of all bases of this Layout with counts 0 and 1, the shortest runs first."""
-    start = first_base(layout)
-    runs = {start: ()}
-    found = [start]
     changes = {}
-    at = 0
-    # the runs are made longer in their own order, by the least step first: so the first to reach a base is the least
-    while at < len(found):
-        base = found[at]
+
+    def moves(base):
         counts, order, _, _ = base
         # the open order tells the counts, too, as long as these are 0 and 1
         if order not in changes:
             changes[order] = changes_from(layout, counts, order)
-        for step, change in changes[order]:
-            reached = changed_base(base, change)
-            if reached not in runs:
-                runs[reached] = runs[base] + (step,)
-                found.append(reached)
-        at += 1
-    return list(runs.items())
+        return [(step, changed_base(base, change)) for step, change in changes[order]]
+
+    return list(runs_from(first_base(layout), moves).items())
 
 
 def changes_from(layout, counts, order):
-    """The pairs (step, change) of all STEPs between counts 0 and 1, ascending, in bases with this open order."""
+    """The pairs (step, change) of all STEPs that close open doors and open shut ones, ascending, see changed_base."""
     doors = range(len(counts))
-    closes = [(("close", k), closing(layout, counts, order, k)) for k in doors if counts[k] == 1]
+    closes = [(("close", k), closing(layout, counts, order, k)) for k in doors if counts[k] > 0]
     opens = [(("open", k), opening(layout, counts, order, k)) for k in doors if counts[k] == 0]
     return closes + opens
 

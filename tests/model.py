@@ -232,3 +232,35 @@ def random_steps(program, seed, many):
     dice = random.Random(seed)
     calls, doors = call_steps(program), door_steps(program)
     return tuple(dice.choice(calls if calls and dice.random() < 0.5 else doors) for _ in range(many))
+
+
+def lively_program(seed, libs=4, doors=3, symbols="fg", versions=("", "", "a")):
+    """A program in which much hangs on the doors: main needs little, and most uses are served by several libraries."""
+    dice = random.Random(1000 + seed)
+    names = ["main", "c", "a", "b", "e", "d", "h", "g"][:libs]
+    pairs = sorted({(symbol, version) for symbol in symbols for version in versions})
+    made = []
+    for at, name in enumerate(names):
+        others = [other for other in names[1:] if other != name]
+        many = dice.choice((0, 0, 1, 1, 2)) if at else dice.choice((0, 0, 0, 0, 0, 0, 1))
+        needs = dice.sample(others, min(len(others), many))
+        own = sorted(dice.sample(pairs, dice.randint(0 if at < 2 else 1, min(2, len(pairs)))))
+        used = sorted(dice.sample(pairs, dice.randint(1 if at < 3 else 0, min(2, len(pairs)))))
+        made.append((name, tuple(needs), tuple(own), tuple(pair + (dice.random() < 0.5,) for pair in used)))
+    preload = dice.sample(names[1:], 1) if dice.random() < 0.1 else ()
+    chosen = dice.sample(names[1:], min(doors, libs - 1))
+    chosen += [dice.choice(names[1:]) for _ in range(doors - len(chosen))]
+    modes = [dice.choice(("global", "global", "local", "deep")) for _ in chosen]
+    return tuple(made), tuple(preload), tuple(dict.fromkeys(zip(chosen, modes)))
+
+
+def busy_steps(program, seed, closes=1):
+    """Opens of all doors, some of them twice, many calls between, and so many closes at the end."""
+    dice = random.Random(seed)
+    doors = list(range(len(program[2])))
+    opens = dice.sample(doors, len(doors)) + [k for k in doors if dice.random() < 0.3]
+    found = []
+    for k in opens:
+        calls = call_steps(program)
+        found += [("open", k)] + dice.sample(calls, dice.randint(0, len(calls)))
+    return tuple(found + [("close", dice.choice(doors)) for _ in range(closes) if doors])

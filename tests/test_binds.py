@@ -8,7 +8,7 @@ from latebound.binds import always, bindings, dead, shows_answer, without
 from latebound.data import is_program
 from latebound.errors import NoLib, NoUse
 from latebound.runs import run
-from samples import DOORS, PROGRAM, lib, listed, nested, replaced
+from samples import DOORS, PROGRAM, Raising, lib, listed, nested, replaced
 
 LOW, MID = ("low", (), (("f", "one"), ("g", "")), ()), ("mid", ("low",), (("f", ""),), (("f", "two", False),))
 TOP = ("top", (), (("f", "two"),), ())
@@ -20,12 +20,7 @@ ANSWERS = (("nobody",), ("lost",), ("torn",), ("away",), ("opened",), ("bound", 
            ("bound", "top", ""), ("bound", "low", "one"), ("bound", "mid", "nix"), ("bound", "nope", ""))
 
 
-class Raising(unittest.TestCase):
-
-    def raises(self, error, worth, action, *given, **named):
-        with self.assertRaises(error) as caught:
-            action(*given, **named)
-        self.assertEqual(list(vars(caught.exception).values()), [worth])
+class CallsTest(Raising):
 
     def checks_calls(self, action):
         """The action, given a program, a name and a number, raises NoLib, then NoUse."""
@@ -38,7 +33,7 @@ class Raising(unittest.TestCase):
                 self.raises(NoUse, i, action, program=SIX, name=name, i=i)
 
 
-class BindingsTest(Raising):
+class BindingsTest(CallsTest):
 
     def test_example(self):
         self.assertEqual(bindings(SIX, "main", 0), [
@@ -121,7 +116,7 @@ class BindingsTest(Raising):
         self.assertEqual((len(bindings(program, "main", 0)), program), (3, listed(SIX)))
 
 
-class AlwaysTest(Raising):
+class AlwaysTest(CallsTest):
 
     def test_example(self):
         self.assertIsNone(always(SIX, "main", 1))
@@ -139,7 +134,7 @@ class AlwaysTest(Raising):
         self.assertEqual(always(program=listed((LIBS, ("top",), ())), name="main", i=0), ("bound", "top", "two"))
 
 
-class ShowsAnswerTest(Raising):
+class ShowsAnswerTest(CallsTest):
 
     def shows(self, program, name, i, reply, thing):
         """What the document says of a thing that is a tuple of STEPs."""

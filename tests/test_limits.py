@@ -1,6 +1,5 @@
 """Programs at the limits of the document: each function must answer within a few seconds."""
 
-import time
 import unittest
 
 import model
@@ -9,40 +8,10 @@ from latebound.data import is_program
 from latebound.process import Process
 from latebound.runs import run
 from latebound.walks import bases
-
-# far above what each function needs, so that a slow machine passes, and far below what a search without end needs
-MOST_SECONDS = 20
-
-# needs of seven libraries and doors to them: hundreds of thousands of bases, and many ways to look
-NEEDS_AND_DOORS = (
-    ({"a": "cde", "b": "", "c": "g", "d": "fbg", "e": "f", "f": "b", "g": "b"},
-     (("e", "deep"), ("c", "local"), ("a", "global"), ("d", "deep"))),
-    ({"a": "eb", "b": "", "c": "d", "d": "", "e": "dba", "f": "egc", "g": "b"},
-     (("a", "global"), ("g", "deep"), ("f", "global"), ("c", "local"))),
-)
-MANY = tuple(("f", version) for version in ("", "a", "b", "c", "d", "e"))
-MIXED = (("f", ""), ("f", "a"), ("g", ""), ("g", "a"), ("h", ""), ("h", "a"))
-USES = (("f", "", False), ("f", "a", True), ("f", "b", False), ("f", "z", True))
-MIXED_USES = (("f", "", True), ("f", "b", False), ("g", "a", True), ("h", "b", False))
+from limits import MANY, NEEDS_AND_DOORS, USES, Timed, big
 
 
-def big(needs, doors, defs, uses, preload=()):
-    libs = [("main", (), (), uses)] + [(name, tuple(needs[name]), defs, uses) for name in needs]
-    return tuple(libs), tuple(preload), tuple(doors)
-
-
-class LimitsTest(unittest.TestCase):
-
-    def programs(self):
-        yield big(*NEEDS_AND_DOORS[0], MANY, USES)
-        yield big(*NEEDS_AND_DOORS[1], MIXED, MIXED_USES)
-        yield big(*NEEDS_AND_DOORS[0], MANY, USES, "gfedcba")
-
-    def timed(self, function, *given):
-        begin = time.monotonic()
-        told = function(*given)
-        self.assertLess(time.monotonic() - begin, MOST_SECONDS, function.__name__)
-        return told
+class LimitsTest(Timed):
 
     def test_bases(self):
         for program in self.programs():

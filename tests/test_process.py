@@ -4,7 +4,7 @@ import unittest
 from latebound import process
 from latebound.errors import NoDoor, NoLib, NotThere, NoUse
 from latebound.process import Process
-from samples import BASE, DOORS, MAIN, ONE, PROGRAM, TWO, lib, listed
+from samples import BASE, DOORS, MAIN, ONE, PROGRAM, TWO, Raising, lib, listed
 
 OPENED, CLOSED, FULL, SHUT = ("opened",), ("closed",), ("full",), ("shut",)
 TORN, LOST, NOBODY = ("torn",), ("lost",), ("nobody",)
@@ -27,15 +27,6 @@ def seen(process):
     looks = {name: process.looks(name) for name in process.there()}
     return (process.counts(), process.opened(), process.there(), process.public(), process.deep(), looks,
             process.base(), process.stand(), len(process), repr(process))
-
-
-class Raising(unittest.TestCase):
-
-    def raises(self, error, worth, action, *given, **named):
-        with self.assertRaises(error) as caught:
-            action(*given, **named)
-        self.assertIs(type(caught.exception), error)
-        self.assertEqual(list(vars(caught.exception).values()), [worth])
 
 
 class ProcessTest(Raising):
