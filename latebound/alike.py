@@ -48,7 +48,8 @@ def orders(program, doors):
     """All orders in which these doors can be opened, in lists of those behind which the stands are alike."""
     check_doors(program, doors)
     layout = Layout(program)
-    found = list(permutations(list(doors)))
+    chosen = list(doors)
+    found = list(permutations(chosen))
     marks = marks_of(looks_of(program), [base_behind(layout, first_base(layout), order) for order in found])
     return in_lists(list(zip(marks, found)))
 
@@ -104,7 +105,7 @@ def way_to_unlike(lens, kinds, first, second):
     """The shortest run to a base with both doors shut from which the order of opening them matters for the call."""
     if first not in lens.doors or second not in lens.doors:
         return None
-    for base, way in runs_from(lens.start, lens.moves).items():
+    for base, way in runs_of(lens).items():
         if base[0][first] == 0 and base[0][second] == 0:
             one = lens.seen(base_behind(lens.layout, base, (first, second)))
             other = lens.seen(base_behind(lens.layout, base, (second, first)))
@@ -126,9 +127,14 @@ def looks_of(program):
     return [(lens, kinds_of(lens)) for lens in all_lenses(program)]
 
 
+def runs_of(lens):
+    """A dict of all bases that the lens sees, each with the shortest run to it."""
+    return runs_from(lens.start, lambda base: lens.moves(base))
+
+
 def kinds_of(lens):
     """A dict of a number for each base that the lens sees, the same one just if the call never tells them apart."""
-    found = list(runs_from(lens.start, lens.moves))
+    found = list(runs_of(lens))
     numbers = {base: at for at, base in enumerate(found)}
     behind = [[numbers[other] for _, other in lens.moves(base)] for base in found]
     kinds = numbered([(base[0], lens.answer(base)) for base in found])

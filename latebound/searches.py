@@ -94,7 +94,7 @@ def top(above, node):
 def fewest(many, fits):
     """The shortest ascending tuple of numbers below many that fits, of several the least; None if there is none."""
     for size in range(many + 1):
-        for chosen in combinations(list(range(many)), size):
+        for chosen in combinations(range(many), size):
             if fits(chosen):
                 return chosen
     return None

@@ -4,6 +4,8 @@ import random
 import time
 import unittest
 
+import model
+
 # far above what each function needs, so that a slow machine passes, and far below what a search without end needs
 MOST_SECONDS = 20
 
@@ -49,3 +51,12 @@ class Timed(unittest.TestCase):
         told = function(*given)
         self.assertLess(time.monotonic() - begin, MOST_SECONDS, function.__name__)
         return told
+
+
+class TimedMore(Timed):
+
+    def programs(self):
+        yield from super().programs()
+        yield uneven(1, *NEEDS_AND_DOORS[0])
+        yield uneven(2, *NEEDS_AND_DOORS[1])
+        yield model.lively_program(3, 8, 4, "fgh")

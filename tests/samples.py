@@ -54,8 +54,8 @@ def replaced(value, path, part):
 
 # values that are no RUN, no list of doors and no preload, of whatever program
 OTHERS = (None, True, False, 0, 1, -1, "", "a", "open", "open 0", [[]], [()], ((),), (None,), [None], ("",), [""],
-          ("open", 0), ["open", 0], ("call", "main", 0), (("open", True),), (("open", "0"),), ([],), (0,), (0, 1), [True],
-          [False, 1], ["0"], [0, None], (("jump", 0),), (("call", "main"),), nested("a", 12), nested(0, 12),
+          ("open", 0), ["open", 0], ("call", "main", 0), (("open", True),), (("open", "0"),), ([],), (0,), (0, 1),
+          [True], [False, 1], ["0"], [0, None], (("jump", 0),), (("call", "main"),), nested("a", 12), nested(0, 12),
           nested((), 11), nested(("open", 0), 10))
 
 

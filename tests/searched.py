@@ -110,7 +110,8 @@ def unlike_run(program, one, other):
 
 def bases(program):
     """The pairs (state, run) of all bases with counts 0 and 1, the shortest runs first."""
-    return [(state, run) for state, run in model.states(program, model.door_steps(program)).items() if 2 not in state[0]]
+    return [(state, run) for state, run in model.states(program,
+                                                        model.door_steps(program)).items() if 2 not in state[0]]
 
 
 def in_lists(pairs, same):

@@ -255,7 +255,8 @@ class OrdersTest(Raising):
         self.assertEqual(orders(THREE, ()), [[()]])
         self.assertEqual(orders(THREE, (1,)), [[(1,)]])
         self.assertEqual(orders(THREE, (0, 2)), [[(0, 2), (2, 0)]])
-        self.assertEqual(orders(THREE, (0, 1, 2)), [[(0, 1, 2), (0, 2, 1), (2, 0, 1)], [(1, 0, 2), (1, 2, 0), (2, 1, 0)]])
+        self.assertEqual(orders(THREE, (0, 1, 2)), [[(0, 1, 2), (0, 2, 1), (2, 0, 1)],
+                                                    [(1, 0, 2), (1, 2, 0), (2, 1, 0)]])
 
     def test_beside_a_search_over_all_pairs(self):
         for program in SMALL[:40]:
@@ -319,8 +320,8 @@ class CommuteTest(Raising):
         self.assertGreater(found["later"], 1, found)
 
     def test_no_door(self):
-        for first, second, worth in ((3, 0, 3), (0, 3, 3), (-1, 7, -1), (7, -1, 7), (5, 5, 5), (-1, -1, -1), (1, -4, -4),
-                                     (10 ** 30, 0, 10 ** 30)):
+        for first, second, worth in ((3, 0, 3), (0, 3, 3), (-1, 7, -1), (7, -1, 7), (5, 5, 5), (-1, -1, -1),
+                                     (1, -4, -4), (10 ** 30, 0, 10 ** 30)):
             self.raises(NoDoor, worth, commute, THREE, first, second)
             self.raises(NoDoor, worth, commute, second=second, first=first, program=THREE)
 

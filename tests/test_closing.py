@@ -38,7 +38,8 @@ class ClosingTest(Raising):
         self.assertEqual(done, [("opened",), ("opened",), ("opened",), ("bound", "right", "")])
         self.assertEqual((tears(process, 1), torn_by(process, [1, 0]), calm_order(process), quiet_order(process)),
                          ([], [("left", 0)], (0, 1), (0, 1)))
-        self.assertEqual((process.do(("call", "main", 0)), process.do(("close", 1))), (("bound", "left", ""), ("closed",)))
+        self.assertEqual((process.do(("call", "main", 0)), process.do(("close", 1))),
+                         (("bound", "left", ""), ("closed",)))
         self.assertEqual((tears(process, 0), tears(process, 1)), ([("main", 0)], [("left", 0)]))
         self.assertEqual((calm_order(process), torn_by(process, calm_order(process)), quiet_order(process)),
                          ((0, 1), [("main", 0)], ()))
@@ -109,7 +110,8 @@ class ClosingTest(Raising):
                     for order in itertools.permutations(doors, many)}
             for order in torn:
                 self.assertEqual(torn_by(process, order), torn[order])
-            calm = min((order for order in torn if len(order) == len(doors)), key=lambda order: (len(torn[order]), order))
+            calm = min((order for order in torn if len(order) == len(doors)),
+                       key=lambda order: (len(torn[order]), order))
             quiet = min((order for order in torn if not torn[order]), key=lambda order: (-len(order), order))
             self.assertEqual((calm_order(process), quiet_order(process)), (calm, quiet))
             for k in range(len(program[2])):

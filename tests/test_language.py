@@ -107,6 +107,20 @@ class LanguageTest(unittest.TestCase):
             for module in free:
                 del above[module]
 
+    def test_each_import_is_used(self):
+        for name, _, tree in files():
+            read = {node.id for node in ast.walk(tree) if isinstance(node, ast.Name)}
+            for node in tree.body:
+                if isinstance(node, ast.ImportFrom):
+                    self.assertLessEqual({part.name for part in node.names}, read, name)
+
+    def test_names_of_itertools_are_only_called(self):
+        for name, _, tree in files():
+            taken = LIBRARY["itertools"]
+            called = [node.func for node in ast.walk(tree) if isinstance(node, ast.Call)]
+            read = [node for node in ast.walk(tree) if isinstance(node, ast.Name) and node.id in taken]
+            self.assertEqual([node for node in read if node not in called], [], name)
+
     def test_names(self):
         for name, _, tree in files():
             own = module_names(tree)
@@ -134,6 +148,15 @@ class LanguageTest(unittest.TestCase):
             for node in ast.walk(tree):
                 if isinstance(node, ast.Call) and isinstance(node.func, ast.Attribute):
                     self.assertIn(node.func.attr, own | BUILTIN_METHODS, (name, node.lineno))
+
+    def test_methods_are_called_where_they_stand(self):
+        classes = [node for _, _, tree in files() for node in tree.body if isinstance(node, ast.ClassDef)]
+        own = {node.name for part in classes for node in part.body if isinstance(node, ast.FunctionDef)}
+        for name, _, tree in files():
+            called = [node.func for node in ast.walk(tree) if isinstance(node, ast.Call)]
+            for node in ast.walk(tree):
+                if isinstance(node, ast.Attribute) and node.attr in own | BUILTIN_METHODS:
+                    self.assertIn(node, called, (name, node.lineno))
 
     def test_no_name_is_a_method_and_an_attribute(self):
         methods, attributes = set(), set()

@@ -12,18 +12,12 @@ from latebound.preload import (breach, clash, gives_all, is_lean, least_preload,
 from latebound.runs import process_behind, run
 from latebound.torn import fewest_pins, shows_pins, steady_order, tearing_run, torn
 from latebound.walks import bases
-from limits import NEEDS_AND_DOORS, Timed, uneven
+from limits import TimedMore
 
 DOORS = (0, 1, 2, 3)
 
 
-class LimitsTest(Timed):
-
-    def programs(self):
-        yield from super().programs()
-        yield uneven(1, *NEEDS_AND_DOORS[0])
-        yield uneven(2, *NEEDS_AND_DOORS[1])
-        yield model.lively_program(3, 8, 4, "fgh")
+class LimitsTest(TimedMore):
 
     def calls(self, program):
         return [step[1:] for step in model.call_steps(program)]

@@ -76,7 +76,8 @@ class ExamplesTest(Raising):
                          (True, False, True, False))
 
     def test_a_definition_that_is_taken_away(self):
-        self.assertEqual((least_preload(APART, (("u", 0, NOBODY),)), least_preload(APART, (("u", 0, ("bound", "v", "")),)),
+        self.assertEqual((least_preload(APART, (("u", 0, NOBODY),)),
+                          least_preload(APART, (("u", 0, ("bound", "v", "")),)),
                           least_preload(APART, (("u", 0, LOST),))), (("u",), (), None))
 
     def test_defined_in_this_file(self):
@@ -130,12 +131,14 @@ class GivesTest(Raising):
     def test_an_answer_that_nobody_can_tell(self):
         for answer in (("bound", "nope", ""), ("bound", "x", "two"), NOBODY, ("bound", "d", "")):
             wanted = (("main", 0, answer),)
-            self.assertEqual((gives_all(TEN, wanted), least_preload(TEN, wanted), clash(TEN, wanted)), (False, None, (0,)))
+            self.assertEqual((gives_all(TEN, wanted), least_preload(TEN, wanted), clash(TEN, wanted)),
+                             (False, None, (0,)))
         # but d comes only by its door
         self.assertEqual(breach(TEN, (("d", 0, LOST),)), (0, (("open", 0), ("call", "d", 0))))
 
     def test_the_first_want_and_the_least_shortest_run(self):
-        libs = (lib("main", (), (), (F, ("g", "", True))), lib("a", (), (("f", ""),)), lib("b", (), (("f", ""), ("g", ""))))
+        libs = (lib("main", (), (), (F, ("g", "", True))), lib("a", (), (("f", ""),)),
+                lib("b", (), (("f", ""), ("g", ""))))
         program = (libs, (), (("b", "global"), ("a", "global"), ("b", "local")))
         lost, none = ("main", 0, LOST), ("main", 1, NOBODY)
         self.assertEqual(breach(program, (lost,)), (0, (("open", 0), ("call", "main", 0))))
@@ -146,7 +149,8 @@ class GivesTest(Raising):
 
     def test_weak_or_not_only_what_is_told_counts(self):
         libs = (lib("main", (), (), (F, ("g", "", True))),)
-        told = {(i, answer): gives_all((libs, (), ()), [("main", i, answer)]) for i in (0, 1) for answer in (NOBODY, LOST)}
+        told = {(i, answer): gives_all((libs, (), ()), [("main", i, answer)])
+                for i in (0, 1) for answer in (NOBODY, LOST)}
         self.assertEqual(told, {(0, NOBODY): False, (0, LOST): True, (1, NOBODY): True, (1, LOST): False})
 
     def test_the_first_call_since_the_library_came(self):
@@ -240,7 +244,8 @@ class SearchTest(Raising):
         self.assertIsNone(clash(program, first))
 
     def test_three_wants_that_only_together_clash(self):
-        libs = (lib("main", (), (), (("f", "", True), ("g", "", True), ("h", "", True))), lib("a", (), (("f", ""), ("g", ""))),
+        libs = (lib("main", (), (), (("f", "", True), ("g", "", True), ("h", "", True))),
+                lib("a", (), (("f", ""), ("g", ""))),
                 lib("b", (), (("g", ""), ("h", ""))), lib("c", (), (("f", ""), ("h", ""))))
         # a ahead of c, b ahead of a, c ahead of b
         wanted = (("main", 0, ("bound", "a", "")), ("main", 1, ("bound", "b", "")), ("main", 2, ("bound", "c", "")))
@@ -254,8 +259,9 @@ class ShowsPreloadTest(Raising):
     def test_other_values(self):
         for thing in ((), ("x",), ("x", "d"), ("d", "x"), ("k", "x", "d")):
             self.assertIs(shows_preload(TEN, (), thing), True)
-        for thing in OTHERS + (["x"], [], ("main",), ("x", "main"), ("x", "x"), ("x", "d", "x"), ("nope",), ("x", "nope"),
-                               ("x", ""), ("x", None), "x", "xd", (("x",),), ("X",), ("x", 0), ("x", True), ("x", ["d"])):
+        for thing in OTHERS + (["x"], [], ("main",), ("x", "main"), ("x", "x"), ("x", "d", "x"), ("nope",),
+                               ("x", "nope"), ("x", ""), ("x", None), "x", "xd", (("x",),), ("X",), ("x", 0),
+                               ("x", True), ("x", ["d"])):
             self.assertIs(shows_preload(TEN, (), thing), False, thing)
             self.assertIs(shows_preload(TEN, (OWN,), thing), False, thing)
 
@@ -284,7 +290,8 @@ class ErrorsTest(Raising):
         self.assertEqual(clash(wanted=(OWN, FAR), program=TEN), (0, 1))
 
     def test_lists_and_kinds(self):
-        for function, *rest in ((gives_all,), (breach,), (least_preload,), (clash,), (many_preloads, 2), (is_lean, ("x",))):
+        for function, *rest in ((gives_all,), (breach,), (least_preload,), (clash,), (many_preloads, 2),
+                                (is_lean, ("x",))):
             for wanted in ((OWN,), (OWN, FAR), (), (("main", 0, ("bound", "k", "")), FAR)):
                 self.told_by_lists(function, TEN, wanted, *rest)
         told = [breach(TEN, (FAR,)), breach(TEN, (FAR,))[1], least_preload(TEN, (OWN,)), clash(TEN, (OWN, FAR)),
